@@ -1,4 +1,4 @@
-"""What can go wrong: the fault of a script, and the refusals of calls."""
+"""What can go wrong: the fault of a script, a change that can't be put, and the refusals of calls."""
 
 
 class Fault(Exception):
@@ -7,6 +7,13 @@ class Fault(Exception):
     def __init__(self, code, place):
         self.code = code
         self.place = place
+
+
+class ChangeNotPut(Exception):
+    """A change that stands nowhere in a text where it may be put: its number."""
+
+    def __init__(self, number):
+        self.number = number
 
 
 class Refusal(Exception):

@@ -1,4 +1,4 @@
-"""The least patch of one text to another: a list of marks, each a tuple of what is done and the line."""
+"""Patches, each a list of marks: tuples of what is done and the line."""
 
 from linepatches.letters import bytes_of
 
@@ -47,6 +47,49 @@ def counts_with(line, second, without):
         else:
             counts[j] = max(without[j], counts[j + 1])
     return counts
+
+
+def turned_round(marks):
+    """Give the marks of a patch the other way round."""
+    return [(other_way(mark), line) for mark, line in marks]
+
+
+def other_way(mark):
+    """Give what is done to a line when the patch is turned round."""
+    if mark == TAKEN_OUT:
+        return PUT_IN
+    if mark == PUT_IN:
+        return TAKEN_OUT
+    return KEPT
+
+
+def one_behind_other(first, second):
+    """Give the marks of two patches in one, the second made for the text that the first makes."""
+    marks = []
+    i = 0
+    j = 0
+    while i < len(first) or j < len(second):
+        if i < len(first) and first[i][0] == TAKEN_OUT:
+            marks.append(first[i])
+            i += 1
+        elif j < len(second) and second[j][0] == PUT_IN:
+            marks.append(second[j])
+            j += 1
+        else:
+            # What is left of both patches now begins with the same line of the text between.
+            marks.extend(marks_of_both(first[i], second[j]))
+            i += 1
+            j += 1
+    return marks
+
+
+def marks_of_both(first, second):
+    """Give what becomes of a line that the first patch brings and the second one finds: a mark or none."""
+    if second[0] == KEPT:
+        return [first]
+    if first[0] == KEPT:
+        return [second]
+    return []
 
 
 def cost_of(marks):

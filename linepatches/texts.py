@@ -1,7 +1,7 @@
-"""From the bytes of a text to its lines."""
+"""From the bytes of a text to its lines, and back."""
 
 from linepatches.errors import NotAText
-from linepatches.letters import LINE_END, is_letter, letter_of
+from linepatches.letters import LINE_END, bytes_of, is_letter, letter_of
 
 MOST_LETTERS = 16
 MOST_LINES = 24
@@ -24,3 +24,9 @@ def lines_of(told):
     if line != "":
         raise NotAText()
     return lines
+
+
+def told_text(lines):
+    """Give the numbers by which a text is told, the counts of its lines and bytes ahead."""
+    told = bytes_of("".join([line + "\n" for line in lines]))
+    return [len(lines), len(told)] + told

@@ -1,6 +1,6 @@
 """What the tests share: calls in numbers, answers taken apart, patches put to texts, and plain searches."""
 
-from itertools import combinations
+from itertools import combinations, groupby
 
 from linepatches.patches import answers
 
@@ -60,6 +60,22 @@ def script(first, second):
     return call(3, first, second)
 
 
+def undo(text):
+    return call(4, text)
+
+
+def drift(first, second, other):
+    return call(5, first, second, other)
+
+
+def both(first, second, third):
+    return call(6, first, second, third)
+
+
+def hunks(first, second):
+    return call(7, first, second)
+
+
 def ask(*calls):
     """The answers to the calls, one list each."""
     told = answers([number for one in calls for number in one])
@@ -97,6 +113,17 @@ def marks_told(told):
     return told[0], told[2], marks
 
 
+def commands_told(told):
+    """The commands of a script told, or the refusal's number."""
+    if told[0] < 0:
+        assert len(told) == 1, "a refusal is its number alone"
+        return told[0]
+    commands = bytes(told[2:]).decode("ascii").split("\n")
+    assert commands.pop() == "", "each command ends with the byte 10"
+    assert told[:2] == [len(commands), len(told) - 2], "as many commands and bytes as told"
+    return commands
+
+
 def patched(lines, told):
     """The lines that a patch told makes of other lines."""
     made = []
@@ -129,8 +156,8 @@ def in_common(first, second):
     return max(len(row) for row in rows_of(first) & rows_of(second))
 
 
-def plain_patch(first, second):
-    """The least patch by the document's words alone, as it is told."""
+def plain_marks(first, second):
+    """The least patch by the document's words alone: pairs of a mark and its line."""
     marks = []
     while first and second:
         if first[0] == second[0]:
@@ -142,7 +169,27 @@ def plain_patch(first, second):
         else:
             marks.append((2, second[0]))
             second = second[1:]
-    marks += [(1, line) for line in first] + [(2, line) for line in second]
+    return marks + [(1, line) for line in first] + [(2, line) for line in second]
+
+
+def plain_changes(first, second):
+    """The changes of the least patch: each its place, the lines before it, taken out, put in, and behind it."""
+    marks = plain_marks(first, second)
+    grouped = [list(group) for is_kept, group in groupby(marks, key=lambda pair: pair[0] == 0)]
+    changes = []
+    for number, group in enumerate(grouped):
+        if group[0][0] != 0:
+            ahead = [mark for earlier in grouped[:number] for mark, line in earlier]
+            before = [line for mark, line in grouped[number - 1][-2:]] if number > 0 else []
+            behind = [line for later in grouped[number + 1:number + 2] for mark, line in later[:2]]
+            out, into = [[line for mark, line in group if mark == asked] for asked in (1, 2)]
+            changes.append((len(ahead) - ahead.count(2), before, out, into, behind))
+    return changes
+
+
+def plain_patch(first, second):
+    """The least patch by the document's words alone, as it is told."""
+    marks = plain_marks(first, second)
     kept = sum(mark == 0 for mark, line in marks)
     told = [len(marks) - kept, len(marks), kept]
     for mark, line in marks:

@@ -1,21 +1,12 @@
 import random
 import unittest
 
-from helper import NOT_TEXTS, OWN_WORDS, ask, ask_one, diff, load, outcome, patch, script, text
+from helper import NOT_TEXTS, OWN_WORDS, ask, ask_one, commands_told, diff, load, outcome, patch, script, text
 
 
 class Script(unittest.TestCase):
     def told(self, first, second):
-        """The lines of the script told, or the refusal's number."""
-        told = ask_one(script(text(*first), text(*second)))
-        if told[0] < 0:
-            self.assertEqual(len(told), 1)
-            return told[0]
-        self.assertEqual(told[1], len(told) - 2)
-        rows = bytes(told[2:]).decode("ascii").split("\n")
-        self.assertEqual(rows.pop(), "")
-        self.assertEqual(told[0], len(rows))
-        return rows
+        return commands_told(ask_one(script(text(*first), text(*second))))
 
     def test_worked_example(self):
         written = "if line 2 after x ;\nif line 2 delete ;\nif line 3 after d ;\n"
